@@ -11,7 +11,7 @@ const (
 	mostKey   = 200                // bytes of a key
 	mostValue = 65536              // bytes of a value
 	mostOps   = api.MaxRecord - 64 // bytes of a batch's changes
-	opHead    = 8                  // bytes that a change, and their number, has at most beside key and value
+	opHead    = 8                  // at least as many bytes as a change has beside key and value, or a list ahead of its changes
 )
 
 // content is what a store tells.
