@@ -276,9 +276,9 @@ func TestOneRefusedCall(t *testing.T) {
 					if w.d.Ops()-ahead <= m.after {
 						break // no later operation is there to be met
 					}
-					t.Fatal("OK, though the disk refused", c, m)
+				} else { // one may also be OK where the trouble comes behind it
+					refused[c]++
 				}
-				refused[c]++
 				w.crashes()
 				if m.kind >= 0 {
 					w.goesOn()

@@ -227,22 +227,25 @@ func TestOneRefusedCall(t *testing.T) {
 	for _, beginning := range beginnings() {
 		for _, c := range []call{{2, 9}, {8, 0}, frees(2)} {
 			for after := range mostOps {
-				ok := false
+				met := false
 				for _, m := range troubles(after) {
 					throughCrashes(t, func(w *witness) {
 						w.must(beginning...)
 						w.meet(m)
 						ahead := w.d.Ops()
-						ok = w.do(c)
-						if ok == (w.d.Ops()-ahead > after) {
-							w.fatal("OK, though the disk refused, or the other way round", c)
+						ok := w.do(c)
+						met = w.d.Ops()-ahead > after
+						if !ok && !met {
+							w.fatal("refused, though the disk did not refuse", c)
+						}
+						if !ok { // one may also be OK where the trouble comes behind it
+							refused[c]++
 						}
 					})
 				}
-				if ok {
+				if !met {
 					break // no later operation is there to be met
 				}
-				refused[c]++
 			}
 		}
 	}

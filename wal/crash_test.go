@@ -253,10 +253,11 @@ func TestOneRefusedCall(t *testing.T) {
 			for _, c := range []call{put("new"), put(""), cutTo(1), cutTo(2), cutTo(9)} {
 				w := begun(t, 2, beginning)
 				w.meet(m)
-				if w.do(c) {
-					continue
+				ahead := w.d.Ops()
+				if w.do(c) && w.d.Ops()-ahead <= m.after {
+					continue // no operation was met
 				}
-				refused++
+				refused += len(w.allowed) // one may also be OK where the trouble comes behind it
 				w.crashes()
 				if m.kind >= 0 {
 					w.goesOn()
@@ -266,6 +267,31 @@ func TestOneRefusedCall(t *testing.T) {
 	}
 	if refused == 0 {
 		t.Fatal("nothing was ever refused")
+	}
+}
+
+// P3.2, P3.6: a change needs three operations, also behind one that left nothing on the disk; trouble behind them refuses nothing, and the next change is OK when it is over.
+func TestThreeOperationsAreEnough(t *testing.T) {
+	for _, beginning := range beginnings()[1:] {
+		for _, ahead := range [][]trouble{nil, {{0, 0}}, {{0, 0}, {0, 1}}} {
+			for _, m := range []trouble{{3, -1}, {3, 0}, {3, 2}, {4, -1}, {4, 0}, {5, 0}} {
+				w := begun(t, 3, beginning)
+				for _, a := range ahead {
+					w.meet(a)
+					if w.do(put("no")) {
+						w.fatal("a fault struck", a)
+					}
+				}
+				w.meet(m)
+				if !w.do(put("yes")) {
+					w.fatal("refused behind three operations", m)
+				}
+				w.crashes()
+				w.spend()
+				w.d.Stop(1 << 40)
+				w.goesOn()
+			}
+		}
 	}
 }
 

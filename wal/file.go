@@ -86,13 +86,15 @@ func readRow(raw []byte, numbers []int) (int, bool) {
 
 // load takes what counts of the log's files.
 func (l *Log) load() {
-	l.generation = l.oldest()
-	if l.generation == 0 {
-		return
-	}
+	l.generation = max(1, l.oldest())
 	raw := l.disk.Read(l.file(l.generation))
-	l.held, l.size = scan(raw[:l.noted(len(raw))])
+	counts, noted := l.readNote()
+	if !noted {
+		counts = len(raw)
+	}
+	l.held, l.size = scan(raw[:min(counts, len(raw))])
 	l.spoilt = l.size < len(raw)
+	l.noted = noted && counts == l.size && l.disk.Kept(l.note()) == len(l.disk.Read(l.note()))
 }
 
 // oldest is the lesser one of the files' generations; 0: there is none.
@@ -107,14 +109,14 @@ func (l *Log) oldest() int {
 	return oldest
 }
 
-// noted is how many of so many bytes count: those that a note on this generation says, or all.
-func (l *Log) noted(all int) int {
+// readNote is how many bytes count by a note on this generation; false, if there is none.
+func (l *Log) readNote() (int, bool) {
 	var numbers [2]int
 	_, whole := readRow(l.disk.Read(l.note()), numbers[:])
-	if whole && numbers[0] == l.generation {
-		return min(numbers[1], all)
+	if !whole || numbers[0] != l.generation {
+		return 0, false
 	}
-	return all
+	return numbers[1], true
 }
 
 // scan reads a file's entries from the front on, up to the first that is not whole or does not follow from those ahead, and tells how many bytes they have.

@@ -188,7 +188,7 @@ func TestOpenOfAnyBytes(t *testing.T) {
 	add(t, l, "one", "", "three")
 	cut(t, l, 1)
 	add(t, l, "four")
-	d.Fail(5, 0)
+	d.Fail(2, 0) // all of it is written, but it doesn't count
 	if _, e := l.Append([]byte("five")); e != api.ErrIO {
 		t.Fatal(e)
 	}
@@ -627,8 +627,10 @@ func TestManyRecords(t *testing.T) {
 	record := strings.Repeat("r", 100)
 	for i := range 40000 {
 		if i == 20000 {
-			d.Fail(4, 0)
-			l.Append(nil)
+			d.Fail(1, 0)
+			if _, e := l.Append(nil); e != api.ErrIO {
+				t.Fatal(e)
+			}
 		}
 		add(t, l, record)
 	}
