@@ -16,8 +16,16 @@ type twins struct {
 	a     *author
 	x     *engine.Cluster
 	m     *model
+	apart bool // many of the entries the hosts do by themselves
 	story []string
 	met   map[string]int
+}
+
+// newTwins are new ones.
+func newTwins(t *testing.T, seed int64, met map[string]int) *twins {
+	a := newAuthor(t, seed)
+	x, _ := engine.New(a.c)
+	return &twins{t: t, a: a, x: x, m: newModel(a.c), met: met, story: []string{fmt.Sprint("seed ", seed)}}
 }
 
 // fails tells the story.
@@ -30,7 +38,12 @@ func (w *twins) fails(got, want any) {
 func (w *twins) does(e api.Entry) []byte {
 	w.t.Helper()
 	w.story = append(w.story, line(e))
-	got, why := w.x.Do(e)
+	do := w.x.Do
+	if w.apart && w.a.r.Intn(4) > 0 {
+		w.story = append(w.story, "  by itself")
+		do = func(e api.Entry) ([]byte, api.Errno) { return itself(w.x, e) }
+	}
+	got, why := do(e)
 	want, wantWhy := w.m.do(e)
 	if string(got) != string(want) || why != wantWhy {
 		w.fails(fmt.Sprint(string(got), why), fmt.Sprint(string(want), wantWhy))
@@ -88,11 +101,9 @@ func (w *twins) step() {
 func TestClustersAreAsTheChapterSays(t *testing.T) {
 	met := map[string]int{}
 	for seed := range int64(300) {
-		a := newAuthor(t, seed)
-		x, _ := engine.New(a.c)
-		w := &twins{t: t, a: a, x: x, m: newModel(a.c), met: met, story: []string{fmt.Sprint("seed ", seed)}}
+		w := newTwins(t, seed, met)
 		w.standing()
-		for _, e := range a.begin() {
+		for _, e := range w.a.begin() {
 			w.does(e)
 		}
 		for k := range 250 {
@@ -102,7 +113,7 @@ func TestClustersAreAsTheChapterSays(t *testing.T) {
 			}
 		}
 		w.standing()
-		folds(t, x, a.c)
+		folds(t, w.x, w.a.c)
 	}
 	kinds := []string{"still true", "still false"}
 	for kind, refusals := range map[int][]api.Errno{

@@ -74,7 +74,7 @@ shards:
 			return false
 		}
 		for l := range c.up() {
-			if c.settled(l, n, x) {
+			if l.Settled(n) { // only the host knows: it may have been asked by itself, too
 				continue shards
 			}
 		}

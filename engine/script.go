@@ -75,9 +75,6 @@ func (c *Cluster) request(i int, raw []byte) ([]byte, api.Errno) {
 	if status != wellRead {
 		return front.Reply(status, unread), api.OK
 	}
-	for _, n := range l.Owns() {
-		l.look(n, c.Exec(n))
-	}
 	return front.Reply(l.Request(method, path, body, c.Now())), api.OK
 }
 
@@ -103,7 +100,7 @@ func (c *Cluster) start(i int) api.Errno {
 		return refusal
 	}
 	c.given++
-	c.lives[i] = &life{Host: h, incarnation: c.given, cursors: make([]cursor, c.config.Shards)}
+	c.lives[i] = &life{Host: h, incarnation: c.given}
 	return api.OK
 }
 
@@ -131,9 +128,6 @@ func (c *Cluster) tick(n int) api.Errno {
 func (c *Cluster) pick(l *life, what, shard, n int) api.Errno {
 	parcels, refusal := l.Pick(what, shard, n, c.Now())
 	c.send(parcels)
-	if what == api.PickLoad && refusal == api.OK {
-		l.look(shard, c.Exec(shard))
-	}
 	return refusal
 }
 

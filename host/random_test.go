@@ -89,6 +89,12 @@ func (w *twins) alike(what string, got, want any) {
 func (w *twins) standing(i int, whole bool) {
 	w.t.Helper()
 	h, m := w.hosts[i], w.models[i]
+	for n := -1; n <= w.town.c.Shards; n++ {
+		if got, want := h.Settled(n), m.settled(n); got != want {
+			w.t.Fatalf("%s\nhost %d says of %d that it is settled: %v", strings.Join(w.story, "\n"), i, n, got)
+		}
+		w.met[fmt.Sprint("settled ", m.open(n) != nil, m.settled(n))]++
+	}
 	var l []string
 	l = append(l, fmt.Sprintln(m.view.Version, m.view.Hosts, m.owns()))
 	for n := -1; n <= w.town.c.Shards; n++ {
@@ -299,7 +305,7 @@ func TestHostsAreAsTheChapterSays(t *testing.T) {
 			kinds = append(kinds, fmt.Sprint(path, status))
 		}
 	}
-	kinds = append(kinds, "/poll200", "/poll307", "/poll400", "/poll404", "/poll405", "/poll503", "/query200", "/query307", "/query400", "/query404", "/query405", "/start413", "/cancel413", "handle11", "handle10", "handle20", "handle00")
+	kinds = append(kinds, "/poll200", "/poll307", "/poll400", "/poll404", "/poll405", "/poll503", "/query200", "/query307", "/query400", "/query404", "/query405", "/start413", "/cancel413", "handle11", "handle10", "handle20", "handle00", "settled true true", "settled true false", "settled false false")
 	for what, refusals := range map[int][]api.Errno{
 		api.PickOwn: {api.OK, api.ErrIO, api.ErrDead, api.ErrFence}, api.PickLoad: {api.OK, api.ErrOwner}, api.PickAck: {api.OK, api.ErrOwner, api.ErrIO}, api.PickFire: {api.OK, api.ErrNone, api.ErrOwner, api.ErrFence, api.ErrIO},
 		api.PickMail: {api.OK, api.ErrNone, api.ErrOwner, api.ErrArg}, api.PickRenew: {api.OK, api.ErrOwner},
